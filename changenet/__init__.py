@@ -1,0 +1,1 @@
+"""Circuits of changes."""
