@@ -231,6 +231,7 @@ class Circuit:
 
     def begin(self, numbers):
         self.nodes = nodes_told(numbers)
+        self.ticks = 0
         self.totals = self.no_rows()
         self.changes = self.no_rows()
         self.arrived = self.no_rows()
@@ -276,8 +277,17 @@ class Circuit:
                 return False
         self.changes = changes
         self.totals = totals
-        self.arrived = self.no_rows()
+        self.ticks += 1
+        self.forget()
         return True
+
+    def forget(self):
+        """What has come in since the last tick is gone."""
+        self.arrived = self.no_rows()
+
+
+def rows_together(collections_by_node):
+    return sum([len(x) for x in collections_by_node.values()])
 
 
 def told_of_node(collections_by_node, k):
@@ -319,7 +329,7 @@ def answer_change(circuit, numbers):
 def answer_tick(circuit, numbers):
     if not circuit.tick():
         return [-9]
-    return [sum([len(x) for x in circuit.changes.values()])]
+    return [rows_together(circuit.changes)]
 
 
 def answer_delta(circuit, numbers):
@@ -330,11 +340,37 @@ def answer_total(circuit, numbers):
     return told_of_node(circuit.totals, numbers[0])
 
 
+def answer_holds(circuit, numbers):
+    k = numbers[0]
+    if k not in circuit.nodes:
+        return [-1]
+    if not is_row(numbers[1], numbers[2]):
+        return [-2]
+    return [1, circuit.totals[k].get((numbers[1], numbers[2]), 0)]
+
+
+def answer_pending(circuit, numbers):
+    return told_of_node(circuit.arrived, numbers[0])
+
+
+def answer_forget(circuit, numbers):
+    forgotten = rows_together(circuit.arrived)
+    circuit.forget()
+    return [forgotten]
+
+
+def answer_ticks(circuit, numbers):
+    return [circuit.ticks]
+
+
 CIRCUIT_CALL = 0
-CALLS = {0: answer_circuit, 1: answer_change, 2: answer_tick, 3: answer_delta, 4: answer_total}
+CALLS = {
+    0: answer_circuit, 1: answer_change, 2: answer_tick, 3: answer_delta, 4: answer_total,
+    5: answer_holds, 6: answer_pending, 7: answer_forget, 8: answer_ticks,
+}
 
 # How many numbers a call has; circuit tells that itself.
-LENGTHS = {1: 4, 2: 0, 3: 1, 4: 1}
+LENGTHS = {1: 4, 2: 0, 3: 1, 4: 1, 5: 3, 6: 1, 7: 0, 8: 0}
 
 
 def answers(calls):

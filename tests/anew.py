@@ -117,7 +117,10 @@ class Anew:
         return {k: sum_of(behind[k], ahead[k], -1) for k in self.nodes}
 
     def answer(self, call):
-        return [self.circuit, self.change, self.tick, self.delta, self.total][call[0]](*call[1:])
+        return [
+            self.circuit, self.change, self.tick, self.delta, self.total, self.holds, self.pending, self.forget,
+            self.ticks,
+        ][call[0]](*call[1:])
 
     def circuit(self, length, *numbers):
         if length % 4 or not 4 <= length <= 64:
@@ -156,3 +159,20 @@ class Anew:
 
     def total(self, k):
         return told(self.values()[k]) if k in self.nodes else [-1]
+
+    def holds(self, k, a, b):
+        if k not in self.nodes:
+            return [-1]
+        if min(a, b) < 0 or max(a, b) > 999:
+            return [-2]
+        return [1, self.values()[k].get((a, b), 0)]
+
+    def pending(self, k):
+        return told(self.came.get(k, {})) if k in self.nodes else [-1]
+
+    def forget(self):
+        came, self.came = self.came, {}
+        return [sum(len(x) for x in came.values())]
+
+    def ticks(self):
+        return [len(self.history)]

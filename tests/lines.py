@@ -76,6 +76,22 @@ def total(k):
     return [4, k]
 
 
+def holds(k, a, b):
+    return [5, k, a, b]
+
+
+def pending(k):
+    return [6, k]
+
+
+def forget():
+    return [7]
+
+
+def ticks():
+    return [8]
+
+
 def rows(*told):
     """A collection as it is told; each row as (a, b, count), in order."""
     return [len(told)] + [number for row in told for number in row]

@@ -4,8 +4,8 @@ import unittest
 
 from tests.anew import Anew, sum_of, value_by_table
 from tests.lines import (
-    INPUT, LARGEST, LEAST, ask, change, circuit, circuit_of_numbers, counts, delay, delta, distinct, greatest, join,
-    keep, least, minus, move, plus, swap, tick, total,
+    INPUT, LARGEST, LEAST, ask, change, circuit, circuit_of_numbers, counts, delay, delta, distinct, forget, greatest,
+    holds, join, keep, least, minus, move, pending, plus, swap, tick, ticks, total,
 )
 
 
@@ -64,21 +64,38 @@ def some_number(dice, usual):
     return dice.one_of(usual)
 
 
+ROW_NUMBERS = (0, 1, 1, 2, 2, 3, 998, 999)
+
+
 def some_change(dice, inputs):
-    ab = (0, 1, 1, 2, 2, 3, 998, 999)
     count = (1, 1, 1, 2, -1, -1, -2, 3, 0, 1000, -1000)
     return change(
-        some_number(dice, inputs), some_number(dice, ab), some_number(dice, ab), some_number(dice, count)
+        some_number(dice, inputs), some_number(dice, ROW_NUMBERS), some_number(dice, ROW_NUMBERS),
+        some_number(dice, count),
     )
 
 
+def some_asking(dice, how_many, inputs):
+    """A call that changes nothing; what is pending is asked of inputs more often than of others."""
+    every_k = list(range(1, how_many + 1))
+    call = dice.one_of((delta, delta, total, total, holds, holds, pending, ticks))
+    if call == ticks:
+        return ticks()
+    if call == holds:
+        return holds(some_number(dice, every_k), some_number(dice, ROW_NUMBERS), some_number(dice, ROW_NUMBERS))
+    if call == pending:
+        return pending(some_number(dice, every_k + inputs * how_many))
+    return call(some_number(dice, every_k))
+
+
 def some_line(dice):
-    """At most 60 calls, with refused ones among them."""
+    """60 calls, with refused ones among them; some lines are about the circuit at the beginning for a while."""
     nodes = [INPUT, distinct(1)]
     calls = []
+    begins_with_circuit = not dice.once_in(6)
     while len(calls) < 58:
         inputs = [k for k, node in enumerate(nodes, 1) if node == INPUT] or [1]
-        if not calls or dice.once_in(40):
+        if (begins_with_circuit and not calls) or dice.once_in(40):
             nodes = some_circuit(dice)
             calls.append(circuit(*nodes))
         elif dice.once_in(30):
@@ -86,9 +103,10 @@ def some_line(dice):
             calls.append(broken_circuit(dice))
         elif dice.once_in(5):
             calls.append(tick())
+        elif dice.once_in(30):
+            calls.append(forget())
         elif dice.once_in(3):
-            call = dice.one_of((delta, total))
-            calls.append(call(some_number(dice, list(range(1, len(nodes) + 1)))))
+            calls.append(some_asking(dice, len(nodes), inputs))
         else:
             calls.append(some_change(dice, inputs))
     return calls + [tick(), total(len(nodes))]
@@ -111,21 +129,37 @@ EVERY_SORT = (
 )
 
 
+def kinds_of_answer(call, answer, at):
+    """What a line has come by, in words and numbers, if its call number `at` is answered so."""
+    kinds = [(call[0], min(answer[0], 0))]
+    if answer[0] > 1:
+        kinds.append((call[0], "more than one"))
+    if call[0] == 0 and answer[0] > 0 and at > 20:
+        kinds.append("circuit again")
+    if call[0] == 5 and answer[0] == 1:
+        sign = "above 0" if answer[1] > 0 else "below 0" if answer[1] < 0 else "of 0"
+        kinds.append(f"a count {sign}")
+    return kinds
+
+
 class AskedAnew(unittest.TestCase):
     def test_lines_of_all_sorts(self):
-        refused = {}
+        seen = {}
         for seed in range(1500):
             calls = some_line(Dice(seed))
             anew = Anew()
             expected = [anew.answer(call) for call in calls]
             self.assertEqual(ask(*calls), expected, f"line {seed}")
-            for call, answer in zip(calls, expected):
-                kind = (call[0], min(answer[0], 0))
-                refused[kind] = refused.get(kind, 0) + 1
-        # The lines must come by every refusal, or they would tell little.
+            for at, (call, answer) in enumerate(zip(calls, expected)):
+                for kind in kinds_of_answer(call, answer, at):
+                    seen[kind] = seen.get(kind, 0) + 1
+        # The lines must come by every refusal and by every sort of answer, or they would tell little.
         wanted = [(0, -1), (0, -2), (0, -3), (1, -1), (1, -4), (1, -2), (1, -3), (2, -9), (3, -1), (4, -1)]
-        for kind in wanted + [(call, 0) for call in range(5)]:
-            self.assertGreater(refused.get(kind, 0), 20, kind)
+        wanted += [(5, -1), (5, -2), (6, -1)] + [(call, 0) for call in range(9)]
+        wanted += ["circuit again", "a count above 0", "a count of 0", "a count below 0"]
+        wanted += [(call, "more than one") for call in range(2, 9) if call != 5]
+        for kind in wanted:
+            self.assertGreater(seen.get(kind, 0), 20, kind)
 
 
 class SumsOfChanges(unittest.TestCase):
